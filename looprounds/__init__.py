@@ -1,0 +1,1 @@
+"""Loops of one branch leapt, rounds told exactly."""
