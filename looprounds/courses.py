@@ -125,3 +125,16 @@ def strides_held(over, slope, most):
     if slope < 0:
         return (max(0, -(-over // -slope)), most)
     return (0, most if over <= 0 else -1)
+
+
+def extremes_of(course, counter, final):
+    """The counter's least and greatest value up to the final round (None: as in spans_held).
+
+    What changes evenly is least and greatest where it begins and where it ends: in the first stride and in the last.
+    """
+    known = course.lead + course.stride
+    places = list(range(known))
+    if final is not None:
+        places = list(range(min(known, final + 1))) + list(range(max(0, final - course.stride + 1), final + 1))
+    found = [course.state_after(rounds)[counter] for rounds in places]
+    return [min(found), max(found)]

@@ -1,7 +1,7 @@
 """How a loop ends, and after how many rounds."""
 
-from looprounds.checks import AT_LEAST, AT_MOST
-from looprounds.courses import Course, first_break
+from looprounds.checks import AT_LEAST, AT_MOST, excess
+from looprounds.courses import Course, first_break, next_state
 
 OVER = 0
 BEYOND = 1
@@ -33,3 +33,25 @@ def find_end(tests, move, begin):
     if beyond is None or (over is not None and over < beyond):
         return (OVER, over)
     return (BEYOND, beyond)
+
+
+def all_hold(tests, state):
+    return all([excess(test, state) <= 0 for test in tests])
+
+
+def run_plainly(tests, move, begin, most):
+    """How the loop ends, run round by round, at most so many; after how many rounds; the values then.
+
+    If it has not ended by then, NEVER stands for how.
+    """
+    inside = bounds(len(move))
+    state = list(begin)
+    rounds = 0
+    while rounds < most and all_hold(inside, state) and all_hold(tests, state):
+        state = next_state(move, state)
+        rounds += 1
+    if not all_hold(inside, state):
+        return (BEYOND, rounds, state)
+    if not all_hold(tests, state):
+        return (OVER, rounds, state)
+    return (NEVER, rounds, state)

@@ -1,4 +1,4 @@
-"""Branches, tests and values read from plain lists of numbers; what is not whole is refused."""
+"""Branches, tests and values read from plain lists of numbers, and told as such; what is not whole is refused."""
 
 from looprounds.checks import BELOW, REMAINDER
 from looprounds.refusals import NotWhole
@@ -58,3 +58,24 @@ def whole_values(numbers, counters):
     read = [row.within(-MOST_VALUE, MOST_VALUE) for counter in range(counters)]
     row.finish()
     return read
+
+
+def gift_numbers(gift):
+    if gift[0] is None:
+        return [0, gift[1]]
+    return [1, gift[0], gift[1]]
+
+
+def branch_numbers(tests, move):
+    """The numbers that the branch was read from."""
+    told = [len(tests)]
+    for test in tests:
+        told.extend(test)
+    for gift in move:
+        told.extend(gift_numbers(gift))
+    return told
+
+
+def may_begin(state):
+    """Whether these are values that a loop may begin with."""
+    return all([abs(value) <= MOST_VALUE for value in state])

@@ -36,6 +36,30 @@ def times(*test):
     return [6, len(test), *test]
 
 
+def extremes(counter):
+    return [7, counter]
+
+
+def starts(counter, lo, hi):
+    return [8, counter, lo, hi]
+
+
+def leap():
+    return [9]
+
+
+def jump(n):
+    return [10, n]
+
+
+def plain():
+    return [11]
+
+
+def told():
+    return [12]
+
+
 def too_long(number, frame):
     raise AssertionError("not answered at once")
 
@@ -67,8 +91,10 @@ def taken_apart(given, count):
 
 
 def ask(*calls):
-    """The answers to these calls on one new object; as many calls as you like."""
+    """The answers to these calls on one new object; no more calls and numbers than may be handed in."""
     flat = [number for call in calls for number in call]
+    if len(calls) > 20 or len(flat) > 700:
+        raise AssertionError(f"too long a line: {len(calls)} calls, {len(flat)} numbers")
     given = answers_in_time(flat)
     if not isinstance(given, list) or not all(type(number) is int for number in given):
         raise AssertionError(f"not a list of whole numbers: {given!r}")

@@ -3,61 +3,26 @@
 import random
 import unittest
 
-from asking import ask, at, first, last, loop, rounds, times, values
-from walking import all_hold, branch_numbers, holds, is_beyond, state_after, stretch, walk
+from asking import ask, at, extremes, first, jump, last, leap, loop, plain, rounds, starts, times, told, values
+from choosing import some_move, some_test, tests_that_hold
+from walking import all_hold, branch_numbers, ending, holds, is_beyond, state_after, stretch, walk
 
 # More than two strides of any loop: what holds through this many rounds at both ends, holds between them.
 NEAR = 120
 
 
-def some_test(chance, n, reach):
-    kind = chance.choice((0, 1, 2, 3))
-    counter = chance.randrange(n)
-    if kind == 2:
-        return [kind, counter, chance.randrange(n), chance.randint(-reach, reach)]
-    if kind == 3:
-        m = chance.choice((2, 3, 4, 6))
-        return [kind, counter, m, chance.randrange(m)]
-    return [kind, counter, chance.randint(-reach, reach)]
-
-
-def some_move(chance, n, most):
-    """Rings, chains, and whatever else comes; every ring's sum is 0 now and then."""
-    sources = list(range(n))
-    shape = chance.randrange(4)
-    if shape == 0:
-        chance.shuffle(sources)
-    elif shape == 1:
-        sources = sources[1:] + sources[:1]
-    elif shape == 2:
-        sources = [chance.randrange(n) for counter in sources]
-    numbers = [chance.randint(-most, most) for counter in sources]
-    if chance.random() < 0.3:
-        numbers = [0] * n
-    elif chance.random() < 0.3:
-        numbers[0] -= max(-99 + numbers[0], min(99 + numbers[0], sum(numbers)))
-    move = [[1, source, number] for source, number in zip(sources, numbers)]
-    if chance.random() < 0.3:
-        move[chance.randrange(n)] = [0, chance.randint(-most, most)]
-    return move
-
-
-def tests_that_hold(chance, n, reach, begin):
-    """Up to three tests, most of them such that hold at the beginning."""
-    tests = []
-    for place in range(chance.randrange(4)):
-        test = some_test(chance, n, reach)
-        for more in range(8):
-            if holds(test, begin) or chance.random() < 0.05:
-                break
-            test = some_test(chance, n, reach)
-        tests.append(test)
-    return tests
-
-
 def asked(tests, move, begin, calls):
     answers = ask(loop(len(move), *branch_numbers(tests, move)), values(*begin), *calls)
     return answers[2:]
+
+
+def span(states, counter):
+    found = [state[counter] for state in states]
+    return [min(found), max(found)]
+
+
+def may_begin(state):
+    return all(-1000000 <= value <= 1000000 for value in state)
 
 
 def held(states, test):
@@ -70,9 +35,12 @@ class AgainstWalk(unittest.TestCase):
         if how is None:
             return False
         end = len(states) - 1
-        told = [how, end, *states[-1]] if how < 2 else [2, 0, *begin]
-        self.assertEqual(asked(tests, move, begin, [rounds()]), [told])
+        answer = [how, end, *states[-1]] if how < 2 else [2, 0, *begin]
+        self.assertEqual(asked(tests, move, begin, [rounds()]), [answer])
         self.check_at(tests, move, begin, chance, how, states)
+        self.check_extremes(tests, move, begin, states)
+        self.check_plain(tests, move, begin, how, states)
+        self.check_moves_on(tests, move, begin, chance, how, states)
         for place in range(6):
             test = some_test(chance, len(move), reach)
             there = held(states, test)
@@ -96,10 +64,37 @@ class AgainstWalk(unittest.TestCase):
             expected += [[0, *state_after(move, begin, n)] for n in places[-2:]]
         self.assertEqual(asked(tests, move, begin, [at(n) for n in places]), expected)
 
+    def check_extremes(self, tests, move, begin, states):
+        counters = range(len(move))
+        self.assertEqual(
+            asked(tests, move, begin, [extremes(counter) for counter in counters]),
+            [span(states, counter) for counter in counters])
+
+    def check_plain(self, tests, move, begin, how, states):
+        answer = [2, 2000, *state_after(move, begin, 2000)] if how == 2 else [how, len(states) - 1, *states[-1]]
+        self.assertEqual(asked(tests, move, begin, [plain()]), [answer])
+
+    def check_moves_on(self, tests, move, begin, chance, how, states):
+        """leap, and jump, and what is told and asked behind them."""
+        whole = [len(move), *branch_numbers(tests, move)]
+        end = len(states) - 1
+        n = chance.randint(0, end)
+        leapt = states[-1] if how == 0 and may_begin(states[-1]) else None
+        self.assertEqual(
+            asked(tests, move, begin, [leap(), told(), leap()]),
+            [[end], [*whole, *leapt], [0]] if leapt else [[-4], [*whole, *begin], [-4]])
+        jumped = states[n] if may_begin(states[n]) else None
+        left = [how, end - n, *states[-1]] if how < 2 else [2, 0, *states[n]]
+        self.assertEqual(
+            asked(tests, move, begin, [jump(n), told()]),
+            [[0, *jumped], [*whole, *jumped]] if jumped else [[-4], [*whole, *begin]])
+        if jumped:
+            self.assertEqual(asked(tests, move, begin, [jump(n), rounds()])[1], left)
+
     def test_small_loops(self):
         chance = random.Random(20)
         walked = [0, 0]
-        for number in range(6000):
+        for number in range(4000):
             n = chance.randint(1, 4)
             reach = chance.choice((6, 30, 200))
             begin = [chance.randint(-reach, reach) for counter in range(n)]
@@ -107,7 +102,29 @@ class AgainstWalk(unittest.TestCase):
             tests = tests_that_hold(chance, n, reach, begin)
             with self.subTest(number=number, tests=tests, move=move, begin=begin):
                 walked[self.check_loop(tests, move, begin, chance, reach)] += 1
-        self.assertGreater(walked[True], 3000)
+        self.assertGreater(walked[True], 2000)
+
+
+class Starts(unittest.TestCase):
+    def test_beginnings_close_by(self):
+        chance = random.Random(23)
+        mixed = [0, 0]
+        for number in range(2500):
+            n = chance.randint(1, 4)
+            begin = [chance.randint(-6, 6) for counter in range(n)]
+            move = some_move(chance, n, chance.choice((0, 1, 6)))
+            tests = tests_that_hold(chance, n, 8, begin)
+            counter = chance.randrange(n)
+            lo = chance.randint(-9, 6)
+            hi = lo + chance.randint(0, 7)
+            ways = [ending(tests, move, begin[:counter] + [value] + begin[counter + 1:])[0] for value in range(lo, hi + 1)]
+            others = [lo + place for place, way in enumerate(ways) if way != 0]
+            answer = [ways.count(0), ways.count(1), ways.count(2)] + ([1, others[0]] if others else [0])
+            with self.subTest(number=number, tests=tests, move=move, begin=begin, counter=counter, lo=lo, hi=hi):
+                self.assertEqual(asked(tests, move, begin, [starts(counter, lo, hi)]), [answer])
+            for way in (1, 2):
+                mixed[way - 1] += 0 < ways.count(way) < len(ways)
+        self.assertGreater(min(mixed), 20)
 
 
 class FarLoops(unittest.TestCase):
@@ -128,6 +145,23 @@ class FarLoops(unittest.TestCase):
             self.assertFalse(all_hold(tests, far[-1]))
         for place in range(4):
             self.check_test(tests, move, begin, end, some_test(chance, len(move), 999999))
+        self.assertEqual(
+            asked(tests, move, begin, [extremes(counter) for counter in range(len(move))]),
+            [span(near + far, counter) for counter in range(len(move))])
+        self.check_moves_on(tests, move, begin, how, end, far[-1], chance)
+
+    def check_moves_on(self, tests, move, begin, how, end, final, chance):
+        leapt = how == 0 and may_begin(final)
+        self.assertEqual(
+            asked(tests, move, begin, [leap(), at(0)]),
+            [[end], [0, *final]] if leapt else [[-4], [0, *begin]])
+        n = min(chance.randint(0, end), chance.choice((10 ** 4, 10 ** 5, 10 ** 12)))
+        state = state_after(move, begin, n)
+        jumped = may_begin(state)
+        self.assertEqual(
+            asked(tests, move, begin, [jump(n), at(0), rounds()]),
+            [[0, *state], [0, *state], [how, end - n, *final]] if jumped
+            else [[-4], [0, *begin], [how, end, *final]])
 
     def check_test(self, tests, move, begin, end, test):
         earliest, latest, many = asked(tests, move, begin, [first(*test), last(*test), times(*test)])

@@ -82,3 +82,50 @@ def stretch(move, begin, start, count):
     while len(states) < count:
         states.append(moved(move, states[-1]))
     return states
+
+
+def first_failing(holds_at, most):
+    """The least k from 0 to most for which it doesn't hold, if it never holds again from there on; else None."""
+    if holds_at(most):
+        return None
+    low, high = -1, most
+    while high - low > 1:
+        middle = (low + high) // 2
+        if holds_at(middle):
+            low = middle
+        else:
+            high = middle
+    return high
+
+
+def far_end(tests, move, begin):
+    """How the loop ends, and after how many rounds, if it hasn't within some hundred rounds.
+
+    Every 12 rounds change a value by the same amount, once all of at most 4 counters have drawn from one another; and
+    remainders that have been right through 12 times 12 rounds stay so.
+    """
+    tests = [test for test in tests if test[0] != 3]
+    found = []
+    states = stretch(move, begin, 4, 24)
+    for place in range(12):
+        change = [late - early for early, late in zip(states[place], states[place + 12])]
+
+        def goes_on(k):
+            state = [value + k * by for value, by in zip(states[place], change)]
+            return all_hold(tests, state) and not is_beyond(state)
+
+        k = first_failing(goes_on, 10 * LIMIT)
+        if k is not None:
+            found.append(4 + place + 12 * k)
+    if not found:
+        return 2, 0
+    end = min(found)
+    return (1 if is_beyond(state_after(move, begin, end)) else 0), end
+
+
+def ending(tests, move, begin):
+    """How the loop ends (0, 1, 2), and after how many rounds (0, if never)."""
+    how, states = walk(tests, move, begin, 300)
+    if how is None:
+        return far_end(tests, move, begin)
+    return how, (0 if how == 2 else len(states) - 1)
